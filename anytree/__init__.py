@@ -1,0 +1,1 @@
+"""Marked-up text, whatever it is, a tree."""
