@@ -67,7 +67,7 @@ def read_start(tree, points, place):
     if tag.word in RAW and not tag.short:
         end = raw_end(points, behind, tag.name)
         tag.text = raw_text(tag.word, points[behind:end])
-        behind = behind_raw(points, end)
+        behind = read_tag(points, end + 2)[1]
     opened = take_start(tree, tag)
     if opened and tag.word == "pre":
         behind = behind_line_feed(points, behind)
@@ -92,13 +92,6 @@ def raw_text(word, points):
     if word == "textarea" and text[:1] == [LINE_FEED]:
         return text[1:]
     return text
-
-
-def behind_raw(points, end):
-    """The place behind the end tag that begins at a place, or the end of all."""
-    if end == len(points):
-        return end
-    return read_tag(points, end + 2)[1]
 
 
 def behind_line_feed(points, place):

@@ -6,9 +6,7 @@ AMPERSAND = 38
 SEMICOLON = 59
 NUMBER_SIGN = 35
 HEXADECIMAL_SIGNS = (88, 120)
-MOST_DECIMAL_DIGITS = 7
-MOST_HEXADECIMAL_DIGITS = 6
-# The longest that may stand between & and ; is # and 7 digits, or #x and 6.
+# The most that may stand between & and ; : # and 7 digits, or #x and 6. So this bounds the digits, too.
 LONGEST = 8
 
 NAMED = {
@@ -31,7 +29,9 @@ def digit_of(point):
 
 
 def number_of(digits, base):
-    """The number that digits tell in a base; -1 if one of them is no digit there."""
+    """The number that digits tell in a base; -1 if there are none, or one of them is no digit there."""
+    if not digits:
+        return -1
     number = 0
     for point in digits:
         digit = digit_of(point)
@@ -43,16 +43,10 @@ def number_of(digits, base):
 
 def numbered_point(points):
     """The code point told by what stands between &# and ; : -1 if that's no reference."""
-    digits = points
-    base = 10
-    most = MOST_DECIMAL_DIGITS
-    if points[:1] and points[0] in HEXADECIMAL_SIGNS:
-        digits = points[1:]
-        base = 16
-        most = MOST_HEXADECIMAL_DIGITS
-    if not 1 <= len(digits) <= most:
-        return -1
-    number = number_of(digits, base)
+    if points and points[0] in HEXADECIMAL_SIGNS:
+        number = number_of(points[1:], 16)
+    else:
+        number = number_of(points, 10)
     if number >= 0 and (number == 0 or not is_point(number)):
         return REPLACEMENT
     return number

@@ -55,9 +55,7 @@ class Tree:
 
     def close_within_table(self, kept):
         """Closes all that was opened behind the table, or behind the last open one of the kept names in it."""
-        place = self.nearest(("table",) + kept) + 1
-        if place < len(self.opened):
-            self.close(place)
+        self.close(self.nearest(("table",) + kept) + 1)
 
     def open_again(self):
         tags = self.remembered

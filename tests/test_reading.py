@@ -23,6 +23,12 @@ class Tags(unittest.TestCase):
         self.assertEqual(in_body("<x-y>a</x-z>b</x-y>c"), "x-y('ab') 'c'")
         self.assertEqual(in_body("<x,y>a</x-y>b</X,Y>c"), "x,y('ab') 'c'")
 
+    def test_names_that_differ_in_one_odd_sign(self):
+        for sign in "@`{[:;,-z0":
+            for other in "@`{[:;,-z0":
+                shown = "x%s('a') 'b'" if sign == other else "x%s('ab')"
+                self.assertEqual(in_body("<x%s>a</x%s>b" % (sign, other)), shown % sign)
+
     def test_an_end_tags_attributes_say_nothing(self):
         self.assertEqual(in_body("<i>x</i a='>' b / >y"), "i('x') 'y'")
 
@@ -92,7 +98,8 @@ class Nothing(unittest.TestCase):
             self.assertEqual(in_body("<p>x" + nothing + "y"), "p('xy')", nothing)
 
     def test_quotes_do_not_hide_a_greater(self):
-        self.assertEqual(in_body("x<!a '>'>y"), r'''"x'>y"''')
+        for start in ("<!a", "<?a", "</ ", "</1"):
+            self.assertEqual(in_body("x" + start + " b='>'>y"), r'''"x'>y"''')
 
     def test_to_the_end(self):
         for nothing in ("<!", "<!-", "<!DOCTYPE", "<?", "<?x <b", "</", "</ x", "</<b"):

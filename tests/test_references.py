@@ -65,7 +65,8 @@ class References(unittest.TestCase):
         self.check("&#128;", "\x80")
 
     def test_decimal_almost_right(self):
-        for source in ("&#00000065;", "&#65", "&#65a;", "&#6 5;", "&#-5;", "&#+5;", "&#a;", "&#12345678;", "& #65;"):
+        for source in ("&#00000065;", "&#65", "&#65a;", "&#6 5;", "&#-5;", "&#+5;", "&#a;", "&#12345678;", "& #65;", "&#1/;",
+                       "&#1:;", "&#1A;"):
             if " " in source:
                 self.assertEqual(in_body("<p>" + source), "p(" + ascii(source) + ")")
             else:
@@ -80,7 +81,8 @@ class References(unittest.TestCase):
         self.check("&#xabcdef;", "\ufffd")
 
     def test_hexadecimal_almost_right(self):
-        for source in ("&#x0000041;", "&#x41", "&#xg;", "&#x4g;", "&#xx41;", "&#x@;", "&#x`;", "&#x/;", "&#x:;", "&#xG;"):
+        for source in ("&#x0000041;", "&#x41", "&#xg;", "&#x4g;", "&#xx41;", "&#x@;", "&#x`;", "&#x/;", "&#x:;", "&#xG;",
+                       "&#x1@;", "&#x1`;", "&#x1/;", "&#x1:;", "&#x1G;", "&#x1g;"):
             self.check(source, source)
 
     def test_no_code_point(self):

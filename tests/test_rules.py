@@ -375,6 +375,7 @@ class EndTags(unittest.TestCase):
         self.assertEqual(in_body("<p><b><i>a</p></b>b"), "p(b(i('a'))) i('b')")
         self.assertEqual(in_body("<p><b><i>a</p></i>b"), "p(b(i('a'))) b('b')")
         self.assertEqual(in_body("<p><b>a</p></i></p></u>b"), "p(b('a')) p b('b')")
+        self.assertEqual(in_body("<p><b><s>a</p></i></u>b"), "p(b(s('a'))) b(s('b'))")
 
     def test_the_last_of_that_name_is(self):
         source = "<p><b x=1><i><b x=2><u>a</p></b>b"

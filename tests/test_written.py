@@ -74,7 +74,8 @@ class Written(unittest.TestCase):
         self.assertEqual(inside("x<title>\nx</title>"), "x<title>\nx</title>")
 
     def test_utf8(self):
-        for point in (127, 128, 2047, 2048, 65533, 65535, 65536, 1114111):
+        for point in (127, 128, 2047, 2048, 4095, 4096, 61440, 65533, 65535, 65536, 262143, 262144, 786432, 1048575,
+                      1048576, 1114111, 233, 8364, 128512, 703710):
             sign = chr(point)
             self.assertEqual(inside("<p%s a%s=%s>%s<!--%s-->" % ((sign,) * 5)),
                              "<p%s a%s=\"%s\">%s<!--%s--></p%s>" % ((sign,) * 6))
