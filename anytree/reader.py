@@ -35,11 +35,25 @@ def read_piece(tree, points, place):
             return read_end(tree, points, place + 2)
         if points[place:place + 4] == points_of("<!--"):
             return read_remark(tree, points, place + 4)
-        if second in (EXCLAMATION, QUESTION, SLASH):
-            return place_of_any(points, place, (GREATER,)) + 1
+        if stands_nothing(points, place):
+            return behind_nothing(points, place)
     found = told_at(points, place)
     take_text(tree, found[0])
     return found[1]
+
+
+def stands_nothing(points, place):
+    """Whether <! or <? or </ stands here and begins neither a remark nor an end tag."""
+    if point_at(points, place) != LESS or points[place:place + 4] == points_of("<!--"):
+        return False
+    second = point_at(points, place + 1)
+    if second == SLASH:
+        return not is_letter(point_at(points, place + 2))
+    return second in (EXCLAMATION, QUESTION)
+
+
+def behind_nothing(points, place):
+    return place_of_any(points, place, (GREATER,)) + 1
 
 
 def read_remark(tree, points, place):
@@ -70,7 +84,7 @@ def read_start(tree, points, place):
         behind = read_tag(points, end + 2)[1]
     opened = take_start(tree, tag)
     if opened and tag.word == "pre":
-        behind = behind_line_feed(points, behind)
+        behind = behind_first_line_feed(points, behind)
     return behind
 
 
@@ -94,8 +108,10 @@ def raw_text(word, points):
     return text
 
 
-def behind_line_feed(points, place):
-    """The place behind a line feed that text tells here, if it does."""
+def behind_first_line_feed(points, place):
+    """The place behind a line feed that's the first from here on, if one is; what's nothing is passed over."""
+    while stands_nothing(points, place):
+        place = behind_nothing(points, place)
     if place < len(points):
         found = told_at(points, place)
         if found[0] == LINE_FEED:

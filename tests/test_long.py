@@ -27,7 +27,7 @@ class Long(unittest.TestCase):
             "x", "<", "<b>", "<p>", "<a>", "<p><b>", "<p><b>x", "<table>", "<table><td>", "<td>", "<tr>", "<!--", "<!",
             "</", "</p>", "</b>", "&", "&#", "&amp;", "<i a=", "<i a='", "<i a='x'>", "<script>", "</script>", "<title></",
             "<button>", "<li>", "<ul><li>", "<h1><b>", "\r\n", "\u20ac", "\xff", "<form><p>", "<option>", "<i/", "--", "<a b ",
-            "<p></b><i>", "<pre>\n", "<textarea>", "<br>", "<div>x</div>", "<x y z w q r t u>",
+            "<p></b><i>", "<pre>\n", "<pre><!x></>\n", "<textarea>", "<br>", "<div>x</div>", "<x y z w q r t u>",
         ):
             room = MOST - 4
             came = list(filled(piece.encode("utf-8"), room))

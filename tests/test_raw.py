@@ -2,7 +2,8 @@
 
 import unittest
 
-from tests.helper import in_body, in_head, outline
+from anytree.page import answers
+from tests.helper import feed, in_body, in_head, outline
 
 RAW = ("script", "style", "title", "textarea")
 
@@ -94,8 +95,45 @@ class FirstLineFeed(unittest.TestCase):
         self.assertEqual(in_body("<pre><i>\nx"), r"pre(i('\nx'))")
         self.assertEqual(in_body("<pre><!---->\nx"), r"pre(#'' '\nx')")
         self.assertEqual(in_body("<pre></x>\nx"), r"pre('\nx')")
-        self.assertEqual(in_body("<pre><!x>\nx"), r"pre('\nx')")
+        self.assertEqual(in_body("<pre><head>\nx"), r"pre('\nx')")
+        self.assertEqual(in_body("<pre></br>\nx"), r"pre(br '\nx')")
         self.assertEqual(in_body("<pre>x</pre>\ny"), r"pre('x') '\ny'")
+
+    def test_what_is_nothing_does_not_come_first(self):
+        for nothing in ("<!x>", "<!>", "<!->", "<?x>", "<?>", "</>", "</ x>", "</1>", "<!\n>", "<!x><?x></>"):
+            for line_end in ("\n", "\r\n", "\r", "&#10;", "&#xA;"):
+                self.assertEqual(in_body("<pre>" + nothing + line_end + "x"), "pre('x')", nothing)
+            self.assertEqual(in_body("<pre>" + nothing + "\n\nx"), r"pre('\nx')", nothing)
+            self.assertEqual(in_body("<pre>\n" + nothing + "\nx"), r"pre('\nx')", nothing)
+            self.assertEqual(in_body("<pre>" + nothing + "\n" + nothing + "\nx"), r"pre('\nx')", nothing)
+            self.assertEqual(in_body("<pre>" + nothing + "\n"), "pre", nothing)
+            self.assertEqual(in_body("<pre>" + nothing), "pre", nothing)
+
+    def test_a_whole_answer_behind_what_is_nothing(self):
+        calls = feed("<pre><!x>\nA") + [2, 3]
+        told = [5, 1, 1, 4, 104, 116, 109, 108, 0, 1, 2, 4, 104, 101, 97, 100, 0, 1, 2, 4, 98, 111, 100, 121, 0,
+                1, 3, 3, 112, 114, 101, 0, 2, 4, 1, 65]
+        sent = list(b"<html><head></head><body><pre>A</pre></body></html>")
+        self.assertEqual(answers(calls), [1, 0, 36] + told + [52, 51] + sent)
+
+    def test_what_is_nothing_does_not_make_another_one_first(self):
+        for nothing in ("<!x>", "<?x>", "</>", "<!x><?x></>"):
+            self.assertEqual(in_body("<pre>" + nothing + "x\n"), r"pre('x\n')")
+            self.assertEqual(in_body("<pre> " + nothing + "\nx"), r"pre(' \nx')")
+            self.assertEqual(in_body("<pre>" + nothing + "<i>\nx"), r"pre(i('\nx'))")
+            self.assertEqual(in_body("<pre>" + nothing + "<!--c-->\nx"), r"pre(#'c' '\nx')")
+            self.assertEqual(in_body("<pre>" + nothing + "</x>\nx"), r"pre('\nx')")
+            self.assertEqual(in_body("<pre><i></i>" + nothing + "\nx"), r"pre(i '\nx')")
+            self.assertEqual(in_body("<pre/>" + nothing + "\nx"), r"pre '\nx'")
+            self.assertEqual(in_body("<p>" + nothing + "\nx"), r"p('\nx')")
+            self.assertIn(r"div('\nx')", in_body("<div>" * 197 + "<pre>" + nothing + "\nx"))
+
+    def test_what_is_nothing_up_to_the_end(self):
+        for cut in ("<!", "<!x\n", "<?", "</", "</ x\n", "<!x></"):
+            self.assertEqual(in_body("<pre>" + cut), "pre")
+
+    def test_in_a_textarea_it_is_text(self):
+        self.assertEqual(in_body("<textarea><!x>\nx"), r"textarea('<!x>\nx')")
 
     def test_behind_textarea(self):
         self.assertEqual(in_body("<textarea>\nx</textarea>"), "textarea('x')")
